@@ -3,6 +3,7 @@ package nfa
 import (
 	"stackyard/api"
 	"stackyard/regex"
+	"stackyard/symbols"
 )
 
 // builder makes an automaton of an expression: names tells their numbers; over: there is more than may be.
@@ -126,28 +127,13 @@ func of(r api.Regex, names map[string]int) (api.Dfa, api.Errno) {
 	return Dfa(a)
 }
 
-// numbered tells the names' numbers, if they may be names of symbols.
-func numbered(names []string) (map[string]int, bool) {
-	if len(names) > api.MaxSymbols {
-		return nil, false
-	}
-	numbers := map[string]int{}
-	for i, n := range names {
-		if regex.Check(api.Regex{Op: api.RName, Name: n}) != api.OK {
-			return nil, false
-		}
-		numbers[n] = i
-	}
-	return numbers, len(numbers) == len(names)
-}
-
 // Build: the automaton of an expression.
 func Build(r api.Regex, names ...string) (api.Nfa, api.Errno) {
 	if e := regex.Check(r); e != api.OK {
 		return api.Nfa{}, e
 	}
-	numbers, ok := numbered(names)
-	if !ok {
+	numbers, ok := symbols.Number(names)
+	if !ok || len(names) > api.MaxSymbols {
 		return api.Nfa{}, api.ErrNames
 	}
 	a, ok := made(r, numbers)
