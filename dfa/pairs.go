@@ -32,10 +32,17 @@ func (p *pairs) meet(k [2]int32, from, by int32) int32 {
 	return n
 }
 
-// product is the table of all pairs, which accept as is said of the two.
-func (p *pairs) product(accepts func(x, y bool) bool) table {
+// product is the least table of all pairs, which accept as is said of the two; false: it has more states than most.
+func (p *pairs) product(most int, accepts func(x, y bool) bool) (table, bool) {
 	t := table{symbols: p.a.symbols}
+	asked := false
 	for i := 0; i < len(p.list); i++ {
+		if !asked && len(p.list) > manyPairs {
+			asked = true
+			if p.apart(accepts) > most {
+				return table{}, false
+			}
+		}
 		k := p.list[i]
 		t.accept = append(t.accept, accepts(p.a.accept[k[0]], p.b.accept[k[1]]))
 		second := p.b.row(int(k[1]))
@@ -43,7 +50,7 @@ func (p *pairs) product(accepts func(x, y bool) bool) table {
 			t.next = append(t.next, p.meet([2]int32{to, second[sym]}, int32(i), int32(sym)))
 		}
 	}
-	return t
+	return t.least(most)
 }
 
 // word is the one by which a pair was first met.
@@ -80,7 +87,7 @@ func together(a, b api.Dfa, accepts func(x, y bool) bool) (api.Dfa, api.Errno) {
 	if e := checkBoth(a, b); e != api.OK {
 		return api.Dfa{}, e
 	}
-	t, ok := newPairs(a, b).product(accepts).least(most(a.Symbols))
+	t, ok := newPairs(a, b).product(most(a.Symbols), accepts)
 	if !ok {
 		return api.Dfa{}, api.ErrMany
 	}
