@@ -9,6 +9,7 @@ import (
 	"stackyard/frames"
 	"stackyard/graph"
 	"stackyard/regex"
+	"stackyard/samples"
 	"stackyard/syntax"
 )
 
@@ -280,5 +281,49 @@ func TestP25_6(t *testing.T) {
 				}
 			}
 		}
+	}
+}
+
+// TestPrograms: of programs without a pattern nothing is told that an execution of few moves belies.
+func TestPrograms(t *testing.T) {
+	known := 0
+	for i := range 300 {
+		g, _, e := graph.Make(samples.New(i).Program())
+		if e != 0 {
+			t.Fatal(e)
+		}
+		c := analyse(t, g, i)
+		s, _ := frames.Start(g)
+		all, e := frames.Explore(g, s, []int64{100, 101}, 10, 20000)
+		if e != 0 {
+			t.Fatal(e)
+		}
+		for _, text := range langs[:2] {
+			r := parse(text)
+			for _, y := range all {
+				var word []string
+				for _, site := range y.Stack {
+					word = append(word, g.Sites[site].Name)
+				}
+				if ok, _ := regex.Match(r, word...); !ok {
+					continue
+				}
+				l, e := c.All(y.Node, r)
+				if e != 0 {
+					t.Fatal(i, e)
+				}
+				for x, k := range l {
+					if !k.Reached || k.Is && k.K != y.Env[x] {
+						t.Fatal(i, text, y, x, k)
+					}
+					if k.Is {
+						known++
+					}
+				}
+			}
+		}
+	}
+	if known < 1000 {
+		t.Error(known)
 	}
 }

@@ -440,3 +440,58 @@ func TestOneBack(t *testing.T) {
 		t.Error(n, l, e)
 	}
 }
+
+// TestPrograms: of programs without a pattern all that is told is what executions of few moves show.
+func TestPrograms(t *testing.T) {
+	const deep = 9
+	shown := 0
+	for i := range 400 {
+		g, _, e := graph.Make(samples.New(i).Program())
+		if e != 0 {
+			t.Fatal(e)
+		}
+		all := explore(t, g, deep)
+		d := lang(t, g, langs[i%len(langs)])
+		begin, _ := frames.Start(g)
+		for node := range g.Of {
+			want := map[int]int{}
+			for _, x := range all {
+				if _, in, _ := dfa.Run(d, x.state.Stack...); !in || x.state.Node != node {
+					continue
+				}
+				for v := -1; v < len(g.Vars); v++ {
+					if _, known := want[v]; !known && (v < 0 || x.state.Marks>>v&1 == 1) {
+						want[v] = x.moves
+					}
+				}
+			}
+			n, l, e := At(g, 1000, node, d)
+			if e != 0 {
+				t.Fatal(i, e)
+			}
+			if n >= 0 {
+				l = append(l, api.Marked{X: -1, Steps: n})
+			}
+			for _, m := range l {
+				k, known := want[m.X]
+				if known && k != m.Steps || !known && m.Steps <= deep {
+					t.Fatal(i, node, m, k, known)
+				}
+				delete(want, m.X)
+				moves, e := Why(g, 1000, node, d, m.X)
+				end, _, e2 := frames.Run(g, begin, moves...)
+				_, in, _ := dfa.Run(d, end.Stack...)
+				if e != 0 || e2 != 0 || len(moves) != m.Steps || end.Node != node || !in || m.X >= 0 && end.Marks>>m.X&1 == 0 {
+					t.Fatal(i, node, m, e, e2)
+				}
+				shown++
+			}
+			if len(want) > 0 {
+				t.Fatal(i, node, want)
+			}
+		}
+	}
+	if shown < 500 {
+		t.Error(shown)
+	}
+}
