@@ -87,6 +87,17 @@ func (c *contexts) open(n, steps int) {
 // end is where an execution ends: in a level, at a place, behind so many steps.
 type end struct{ level, at, steps int }
 
+// marked is which variables are marked where some execution ends at a node, as bits.
+func (c *contexts) marked(node int) uint64 {
+	var all uint64
+	for _, n := range c.ends {
+		if g := c.groups[c.list[n].group]; g.proc == c.Of[node] {
+			all |= g.marked[c.local[node]]
+		}
+	}
+	return all
+}
+
 // least is the end of those with a node and a fact with the fewest steps.
 func (c *contexts) least(node, fact int) (end, bool) {
 	var best end

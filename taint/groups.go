@@ -14,11 +14,12 @@ type caller struct{ group, at, step int }
 // exit is what holds at the end of a procedure, and by how many steps.
 type exit struct{ fact, steps int }
 
-// group is what is reached in one procedure from one beginning, calls passed over: of each place (a node of the procedure, and a fact) by how many steps (below 0: none), from which place, by which step.
+// group is what is reached in one procedure from one beginning, calls passed over: of each place (a node of the procedure, and a fact) by how many steps (below 0: none), from which place, by which step; of each node which variables are marked in some place of it, as bits.
 type group struct {
 	begin
 	steps, from, by []int32
 	done            []bool
+	marked          []uint64
 	calls           []call
 	callers         []caller
 	exits           []exit
@@ -75,7 +76,7 @@ func (s *solver) group(b begin) int {
 	n = len(s.groups)
 	s.numbers[b] = n
 	size := len(s.nodes[b.proc]) * s.facts
-	g := &group{begin: b, steps: make([]int32, size), from: make([]int32, size), by: make([]int32, size), done: make([]bool, size)}
+	g := &group{begin: b, steps: make([]int32, size), from: make([]int32, size), by: make([]int32, size), done: make([]bool, size), marked: make([]uint64, len(s.nodes[b.proc]))}
 	for i := range size {
 		g.steps[i] = -1
 	}
@@ -130,6 +131,9 @@ func (s *solver) work(x item) {
 	}
 	g.done[x.at] = true
 	node, fact := s.parts(g, x.at)
+	if fact != nothing {
+		g.marked[s.local[node]] |= bitOf(fact)
+	}
 	if node == s.Exit[g.proc] {
 		s.leave(g, exit{fact, x.steps})
 	}
