@@ -48,8 +48,8 @@ func (p *pairs) tests() []test {
 	return l
 }
 
-// apart is how many of the pairs that are met so far are told apart for sure: the least automaton has at least as many states.
-func (p *pairs) apart(accepts func(x, y bool) bool) int {
+// tooMany tells whether more than most of the pairs that are met so far are told apart for sure: the least automaton has at least as many states.
+func (p *pairs) tooMany(most int, accepts func(x, y bool) bool) bool {
 	tests := p.tests()
 	kinds := map[string]struct{}{}
 	for _, k := range p.list {
@@ -60,6 +60,9 @@ func (p *pairs) apart(accepts func(x, y bool) bool) int {
 			}
 		}
 		kinds[by.key()] = struct{}{}
+		if len(kinds) > most {
+			return true
+		}
 	}
-	return len(kinds)
+	return false
 }

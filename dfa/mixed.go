@@ -245,9 +245,9 @@ func (m *mixed) least(most int) (table, bool) {
 		apart := map[string]struct{}{}
 		for _, s := range forth.list {
 			apart[byTests(s)] = struct{}{}
-		}
-		if len(apart) > most {
-			return table{}, false
+			if len(apart) > most {
+				return table{}, false
+			}
 		}
 	}
 }

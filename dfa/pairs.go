@@ -39,7 +39,7 @@ func (p *pairs) product(most int, accepts func(x, y bool) bool) (table, bool) {
 	for i := 0; i < len(p.list); i++ {
 		if !asked && len(p.list) > manyPairs {
 			asked = true
-			if p.apart(accepts) > most {
+			if p.tooMany(most, accepts) {
 				return table{}, false
 			}
 		}
