@@ -152,7 +152,7 @@ func TestP1_4(t *testing.T) {
 			}
 		}
 	}
-	for s, want := range map[string]int{"": 0, "x": 0, "{": 1, "{,": 1, "{0,": 3, "{3,0}": 3, "{64}": 2, "{01}": 2, "{}x": 2, "{63,": 3, "{62,6": 5} {
+	for s, want := range map[string]int{"": 0, "x": 0, "5": 0, "{}5": 2, "{:}": 1, "{1:": 2, "{/": 1, "{": 1, "{,": 1, "{0,": 3, "{3,0}": 3, "{64}": 2, "{01}": 2, "{}x": 2, "{63,": 3, "{62,6": 5} {
 		if got, at, e := Read(s); got != 0 || at != want || e != api.ErrBitText {
 			t.Errorf("Read(%q) = %d, %d, %d", s, got, at, e)
 		}

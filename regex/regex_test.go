@@ -98,6 +98,7 @@ func TestP7_2(t *testing.T) {
 		"! a *":            node(api.RNot, node(api.RStar, name("a"))),
 		"(a|b)*":           node(api.RStar, node(api.RAlt, name("a"), name("b"))),
 		"(((a)))":          name("a"),
+		"azAZ_09 z Z A":    node(api.RSeq, name("azAZ_09"), name("z"), name("Z"), name("A")),
 		"a9_ _":            node(api.RSeq, name("a9_"), name("_")),
 		"a!b":              node(api.RSeq, name("a"), node(api.RNot, name("b"))),
 		"%#":               node(api.RSeq, api.Regex{Op: api.REmpty}, api.Regex{Op: api.RNone}),
@@ -107,7 +108,7 @@ func TestP7_2(t *testing.T) {
 			t.Errorf("%q: %v", s, r)
 		}
 	}
-	for s, want := range map[string]int{"": 0, "  ": 2, "a |": 3, "a | ": 4, "a)": 1, "9": 0, "a 9": 2, "(a": 2, "()": 1, "*": 0, "a ! ": 4, "!*": 1, "a||b": 2, "(a))": 3, "a\x00": 1, "é": 0, "a,": 1, "\v": 0,
+	for s, want := range map[string]int{"": 0, "  ": 2, "a |": 3, "a | ": 4, "a)": 1, "9": 0, "a 9": 2, "(a": 2, "()": 1, "*": 0, "a ! ": 4, "!*": 1, "a||b": 2, "(a))": 3, "a\x00": 1, "é": 0, "a,": 1, "a@": 1, "a[": 1, "a`": 1, "a{": 1, "a/": 1, "a:": 1, "\v": 0,
 		"b " + strings.Repeat("a", 65): 66, strings.Repeat("(", 200) + ")": 200} {
 		if r, at, e := Parse(s); !Same(r, api.Regex{}) || at != want || e != api.ErrRegex {
 			t.Errorf("%q: %v, %d, %d", s, r, at, e)
