@@ -247,6 +247,52 @@ func TestP9_2(t *testing.T) {
 	}
 }
 
+// ending takes words that end in a symbol (of two) and in which that stands a multiple of n times.
+func ending(sym, n int) api.Dfa {
+	d := api.Dfa{Symbols: 2}
+	for s := range 2 * n {
+		row := []int{s / 2 * 2, s / 2 * 2}
+		row[sym] = (s/2*2+2)%(2*n) + 1
+		d.Next = append(d.Next, row)
+		d.Accept = append(d.Accept, s == 1)
+	}
+	return d
+}
+
+// TestManyPairs: very many pairs, of which a small automaton is made.
+func TestManyPairs(t *testing.T) {
+	a, b := ending(0, 64), ending(1, 65)
+	if d, e := Both(a, b); len(d.Next) != 1 || e != 0 {
+		t.Error(len(d.Next), e)
+	}
+	if ok, w, e := Within(a, b); ok || len(w) != 64 || e != 0 {
+		t.Error(ok, len(w), e)
+	}
+	if d, e := Either(a, b); d.Next != nil || e != api.ErrMany {
+		t.Error(len(d.Next), e)
+	}
+}
+
+// TestByTests: sets that are told apart by words that accept are as many as the least automaton has states.
+func TestByTests(t *testing.T) {
+	m, _ := newMaker([]string{"a", "b"}, []string{"a", "b"})
+	for i, s := range texts {
+		for _, x := range texts[:i] {
+			one, _ := m.of(parse(t, s))
+			other, _ := m.of(parse(t, x))
+			for _, op := range []api.RegexOp{api.RSeq, api.RAlt} {
+				mix := newMixed(op, []table{one, other, one})
+				back := mix.explore(mix.accept, 1000, set.key, mix.before)
+				by := mix.explore(mix.start, 1000, func(s set) string { return told(s, back.list) }, mix.step)
+				want, ok := mix.table(mix.explore(mix.start, 1000, set.key, mix.step)).least(1000)
+				if !back.all || !by.all || !ok || !Same(mix.table(by).dfa(), want.dfa()) {
+					t.Fatal(s, x, op)
+				}
+			}
+		}
+	}
+}
+
 func TestP9_3(t *testing.T) {
 	for _, d := range random(200) {
 		counts := make([]int64, 6)

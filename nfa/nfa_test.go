@@ -118,7 +118,7 @@ func TestErrors(t *testing.T) {
 		if _, e := Step(a, -1, -1); e != want {
 			t.Error(i, e)
 		}
-		if _, e := Run(a, -1); e != want {
+		if ok, e := Run(a, -1); e != want || ok {
 			t.Error(i, e)
 		}
 		if _, e := Turn(a); e != want {
@@ -131,7 +131,7 @@ func TestErrors(t *testing.T) {
 			t.Error(i, e)
 		}
 	}
-	if Check(api.Nfa{States: 1, Symbols: 1, Arcs: make([]api.Arc, api.MaxTrans)}) != 0 {
+	if Check(api.Nfa{States: api.MaxStates, Symbols: api.MaxSymbols, Arcs: make([]api.Arc, api.MaxTrans)}) != 0 {
 		t.Error("at the limit")
 	}
 	a := build(t, "a b", "a", "b")

@@ -164,6 +164,13 @@ func TestP11_2(t *testing.T) {
 	if _, _, line, e := Read(rules + "a b -> a : one\n"); line != 3+api.MaxRules || e != api.ErrLine {
 		t.Error(line, e)
 	}
+	list := strings.Join(names("n", api.MaxSymbols), " ")
+	if p, _, line, e := Read("space bool\nstates " + list + "\nsymbols " + list + "\n"); p.States != api.MaxStates || p.Symbols != api.MaxSymbols || line != 0 || e != 0 {
+		t.Error(line, e)
+	}
+	if _, _, line, e := Read("space bool\nstates " + list + " x\n"); line != 1 || e != api.ErrLine {
+		t.Error(line, e)
+	}
 	wide := head + "a b -> a" + strings.Repeat(" b", api.MaxWord)
 	if p, _, line, e := Read(wide + " : one\n"); line != 0 || e != 0 || len(p.Rules[0].W) != api.MaxWord {
 		t.Error(line, e)
@@ -193,6 +200,10 @@ func TestP11_3(t *testing.T) {
 	}
 	long.Symbols = 3
 	if x, e := Short(long); e != api.ErrMany || x.Rule != nil {
+		t.Error(e)
+	}
+	long.Symbols, long.States = 2, 2
+	if x, e := Short(long); e != 0 || x.Pds.States != 4096 {
 		t.Error(e)
 	}
 	long.Symbols, long.States = 1, 3

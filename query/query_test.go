@@ -165,6 +165,9 @@ func TestP14_4(t *testing.T) {
 	if l, e := List(p, thin, true, 100, 100); len(l) != 50 || len(l[49].W) != 99 || e != 0 {
 		t.Error(len(l), e)
 	}
+	if l, e := List(p, all, false, 0, 1); len(l) != 1 || e != 0 {
+		t.Error(len(l), e)
+	}
 	for _, b := range [][2]int{{-1, 1}, {101, 1}, {0, 0}, {0, 100001}} {
 		if l, e := List(p, all, false, b[0], b[1]); l != nil || e != api.ErrArg {
 			t.Error(l, e)
