@@ -126,6 +126,12 @@ func TestErrors(t *testing.T) {
 			t.Error(e)
 		}
 	}
+	if ok, e := Follows(good, api.Auto{Space: good.Space, States: 2, Symbols: 2}); !ok || e != 0 {
+		t.Error(ok, e)
+	}
+	if s, e := Make(good, a, 0); e != 0 || len(s.Log) != 0 {
+		t.Error(e)
+	}
 	if _, _, e := Right(good, a, api.Saturated{}); e != api.ErrSpace {
 		t.Error(e)
 	}
@@ -237,6 +243,7 @@ func TestP15_5(t *testing.T) {
 		{0, func(s *api.Saturated) { s.Log[0].Parts = []int{0} }},
 		{0, func(s *api.Saturated) { s.Log[0].To = 0 }},
 		{1, func(s *api.Saturated) { s.Log[1].Rule = 99 }},
+		{1, func(s *api.Saturated) { s.Log[1].Rule = len(p.Rules) }},
 		{1, func(s *api.Saturated) { s.Log[1].Rule = -1 }},
 		{1, func(s *api.Saturated) { s.Log[1].Parts = nil }},
 		{1, func(s *api.Saturated) { s.Log[1].Parts = []int{1} }},

@@ -84,6 +84,15 @@ func TestErrors(t *testing.T) {
 			}
 		}
 	}
+	if s, e := Make(p, api.Auto{Space: p.Space, States: 2, Symbols: 3}, 1); e != 0 || len(s.Log) != 1 {
+		t.Error(len(s.Log), e)
+	}
+	if s, e := Make(api.Pds{Space: p.Space}, api.Auto{Space: p.Space}, 0); e != 0 || len(s.Log) != 0 {
+		t.Error(len(s.Log), e)
+	}
+	if ok, e := Follows(p, api.Auto{Space: p.Space, States: 2, Symbols: 3, Trans: []api.Trans{{Sym: 2, To: 1}}}); !ok || e != 0 {
+		t.Error(ok, e)
+	}
 	into := a
 	into.Trans = []api.Trans{{Sym: 1, To: 1}}
 	if _, e := Bound(p, into); e != api.ErrQuery {
@@ -284,7 +293,9 @@ func TestP16_7(t *testing.T) {
 		{0, func(s *api.Saturated) { s.Log[0].Rule = 0 }},
 		{0, func(s *api.Saturated) { s.Log[0].Parts = []int{0} }},
 		{0, func(s *api.Saturated) { s.Log[0].From = 0 }},
-		{1, func(s *api.Saturated) { s.Log[1].Rule = 2 }},
+		{1, func(s *api.Saturated) { s.Log[1].Rule = len(p.Rules) }},
+		{2, func(s *api.Saturated) { s.Log[2].Parts[0] = 0 }},
+		{2, func(s *api.Saturated) { s.Log[2].Parts[1] = 1 }},
 		{1, func(s *api.Saturated) { s.Log[1].Rule = -1 }},
 		{1, func(s *api.Saturated) { s.Log[1].Parts = []int{0} }},
 		{1, func(s *api.Saturated) { s.Log[1].To = 2 }},
@@ -306,6 +317,24 @@ func TestP16_7(t *testing.T) {
 		c.change(&x)
 		if ok, at, e := Right(p, a, x); ok || at != c.at || e != 0 {
 			t.Error(i, ok, at, e, "want", c.at)
+		}
+	}
+}
+
+// TestPaths: a cause's Parts are a path by the rule's very symbols.
+func TestPaths(t *testing.T) {
+	boolean := api.Space{Tag: api.Bool}
+	p := api.Pds{Space: boolean, States: 1, Symbols: 3, Rules: []api.Rule{{W: []int{1, 2}}}}
+	a := api.Auto{Space: boolean, States: 3, Symbols: 3, Final: []int{2}, Trans: []api.Trans{{Sym: 1, To: 1}, {Sym: 2, To: 1}, {From: 1, Sym: 1, To: 2}, {From: 1, Sym: 2, To: 2}, {From: 2, Sym: 2, To: 2}}}
+	s := saturate(t, p, a)
+	if len(s.Log) != 6 || !slices.Equal(s.Log[5].Parts, []int{0, 3}) {
+		t.Fatal(s.Log)
+	}
+	for _, parts := range [][]int{{1, 3}, {0, 2}, {0, 4}, {2, 3}, {3, 3}} {
+		x := clone(s)
+		x.Log[5].Parts = parts
+		if ok, at, e := Right(p, a, x); ok || at != 5 || e != 0 {
+			t.Error(parts, ok, at, e)
 		}
 	}
 }
