@@ -99,6 +99,11 @@ func TestP19_2(t *testing.T) {
 		{conf(1, 1), []api.Mark{given(-1)}, -1},
 		{conf(1, 1, 1), []api.Mark{given(0)}, -1},
 		{conf(1, 1), []api.Mark{rule(2)}, -1},
+		{conf(1, 1), []api.Mark{rule(99), given(0)}, -1},
+		{conf(1, 1), []api.Mark{rule(3), given(0)}, -1},
+		{conf(1, 1), []api.Mark{rule(-1), given(0)}, -1},
+		{conf(1, 1), []api.Mark{given(0), given(1)}, -1},
+		{conf(1, 1), []api.Mark{given(0), given(-1)}, -1},
 		{conf(1), nil, -1},
 		{conf(0, 1), nil, -1},
 	} {
@@ -123,6 +128,9 @@ func TestP19_2(t *testing.T) {
 		{conf(1, 1), []api.Mark{given(0), rule(9)}, -1},
 		{conf(1, 1), []api.Mark{given(-1), rule(0)}, -1},
 		{conf(1, 1), []api.Mark{given(1)}, -1},
+		{conf(0, 1), []api.Mark{given(0), given(1)}, -1},
+		{conf(0, 1), []api.Mark{given(0), given(-1)}, -1},
+		{conf(0, 1), []api.Mark{given(0), rule(99)}, -1},
 		{conf(1), nil, -1},
 		{conf(0), nil, -1},
 	} {

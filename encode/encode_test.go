@@ -136,6 +136,9 @@ func TestP23_2(t *testing.T) {
 			t.Error(n, l, e)
 		}
 	}
+	if n, l, e := Sites(g, api.Conf{W: slices.Repeat([]int{2}, 4096)}); e != 0 || n != 2 || len(l) != 4095 {
+		t.Error(n, len(l), e)
+	}
 	g.Steps = append(g.Steps, api.Step{From: 1, To: 2, Kind: api.SCall, Site: 1})
 	g.Sites = append(g.Sites, api.Site{Name: "again", Proc: 0, From: 1, Back: 2})
 	if n, l, e := Sites(g, api.Conf{W: []int{4, 2, 2}}); e != 0 || n != 4 || !slices.Equal(l, []int{0, 0}) {

@@ -128,7 +128,7 @@ func TestP22_2(t *testing.T) {
 	if e != 0 || out.Node != g.Sites[0].Back || len(out.Stack) != 0 {
 		t.Error(out, e)
 	}
-	for _, m := range []api.Move{{Step: 0}, {Step: -2}, {Step: 99}, {Step: 9, Draw: 1}, {Step: -1}} {
+	for _, m := range []api.Move{{Step: 0}, {Step: -2}, {Step: 99}, {Step: len(g.Steps)}, {Step: 9, Draw: 1}, {Step: -1}} {
 		if x, e := Do(g, s, m); e != api.ErrMove || !Same(x, api.State{}) {
 			t.Error(m, e)
 		}
@@ -167,6 +167,19 @@ func TestP22_3(t *testing.T) {
 	}
 	if l, e := Explore(g, s, []int64{1, 2}, 2, 5); l != nil || e != api.ErrMany {
 		t.Error(e)
+	}
+	if l, e := Explore(g, s, make([]int64, 8), 0, 1); len(l) != 1 || e != 0 {
+		t.Error(l, e)
+	}
+	round := build(t, "var x; proc main { loop { } x = 1; }")
+	begin, _ := Start(round)
+	if l, e := Explore(round, begin, nil, 2, 9); len(l) != 3 || e != 0 {
+		t.Error(l, e)
+	}
+	for _, other := range []api.State{{Node: 1, Env: []int64{0}}, {Env: []int64{1}}, {Env: []int64{0}, Marks: 1}, {Env: []int64{0}, Stack: []int{0}}, {}} {
+		if Same(begin, other) || !Same(other, other) {
+			t.Error("Same", other)
+		}
 	}
 	if l, e := Explore(g, s, nil, 100, 1); len(l) != 1 || e != 0 {
 		t.Error(l, e)

@@ -22,7 +22,7 @@ func parse(t *testing.T, s string) api.Program {
 func build(t *testing.T, s string) api.Graph {
 	t.Helper()
 	g, spot, e := Make(parse(t, s))
-	if e != 0 || spot != (api.Spot{}) {
+	if e != 0 || spot != (api.Spot{}) || Check(g) != 0 {
 		t.Fatal(s, spot, e)
 	}
 	return g
@@ -114,7 +114,7 @@ func TestP21_2(t *testing.T) {
 	}
 	for i, change := range []func(g *api.Graph){
 		func(g *api.Graph) { *g = api.Graph{} }, func(g *api.Graph) { g.Vars = make([]string, 65) }, func(g *api.Graph) { g.Entry = g.Entry[:1] }, func(g *api.Graph) { g.Exit = append(g.Exit, 1) }, func(g *api.Graph) { g.Entry[0] = 16 }, func(g *api.Graph) { g.Entry[0] = -1 }, func(g *api.Graph) { g.Entry[0] = 9 }, func(g *api.Graph) { g.Exit[1] = 1 },
-		func(g *api.Graph) { g.Of[3] = 2 }, func(g *api.Graph) { g.Of[3] = -1 }, func(g *api.Graph) { g.Of = append(g.Of, make([]int, 4096)...) }, func(g *api.Graph) { g.Main = 2 }, func(g *api.Graph) { g.Main = -1 },
+		func(g *api.Graph) { g.Of[3] = 2 }, func(g *api.Graph) { g.Of = append(g.Of, 2) }, func(g *api.Graph) { g.Of[3] = -1 }, func(g *api.Graph) { g.Of = append(g.Of, make([]int, 4096)...) }, func(g *api.Graph) { g.Main = 2 }, func(g *api.Graph) { g.Main = -1 },
 		func(g *api.Graph) { g.Steps[0].To = 16 }, func(g *api.Graph) { g.Steps[0].From = -1 }, func(g *api.Graph) { g.Steps[0].To = 9 }, func(g *api.Graph) { g.Steps[0].Kind = api.SSink }, func(g *api.Graph) { g.Steps[0].Kind = 0 }, func(g *api.Graph) { g.Steps[0].Kind = api.SEither },
 		func(g *api.Graph) { g.Steps[0].X = 1 }, func(g *api.Graph) { g.Steps[1].X = 2 }, func(g *api.Graph) { g.Steps[1].Y = 1 }, func(g *api.Graph) { g.Steps[0].K = 1 }, func(g *api.Graph) { g.Steps[2].Y = -1 }, func(g *api.Graph) { g.Steps[2].X = 2 }, func(g *api.Graph) { g.Steps[3].K = 1 }, func(g *api.Graph) { g.Steps[1].Site = 1 }, func(g *api.Graph) { g.Steps[8].X = 1 },
 		func(g *api.Graph) { g.Steps[9].Site = 0 }, func(g *api.Graph) { g.Steps[8], g.Steps[9] = g.Steps[9], g.Steps[8] }, func(g *api.Graph) { g.Sites[0].From = 11 }, func(g *api.Graph) { g.Sites[0].Back = 12 }, func(g *api.Graph) { g.Sites[0].Proc = 2 }, func(g *api.Graph) { g.Sites = append(g.Sites, g.Sites[0]) }, func(g *api.Graph) { g.Sites = g.Sites[:2] },
@@ -177,6 +177,16 @@ func TestP21_3(t *testing.T) {
 		if l, e := Calls(g, proc); !slices.Equal(l, want) || e != 0 {
 			t.Error(proc, l, e)
 		}
+	}
+	g = build(t, "proc main { either { skip; } or { call f; } } proc f { }")
+	if l, e := Calls(g, 0); !slices.Equal(l, []int{1}) || e != 0 {
+		t.Error(l, e)
+	}
+	if l, e := From(g, len(g.Of)); l != nil || e != api.ErrRange {
+		t.Error(l, e)
+	}
+	if l, e := Reach(g, len(g.Procs)); l != nil || e != api.ErrRange {
+		t.Error(l, e)
 	}
 	for _, n := range []int{-1, 99} {
 		if l, e := From(g, n); l != nil || e != api.ErrRange {
