@@ -30,13 +30,11 @@ type rest struct {
 	at   int
 }
 
-// skip goes on behind blanks, and tells whether there are any.
-func (r *rest) skip() bool {
-	from := r.at
+// skip goes on behind blanks.
+func (r *rest) skip() {
 	for r.at < len(r.text) && strings.IndexByte(blanks, r.text[r.at]) >= 0 {
 		r.at++
 	}
-	return r.at > from
 }
 
 // until takes all up to one of some bytes, or the end.
@@ -85,7 +83,7 @@ func (r *reader) question() api.Ask {
 	if a.Kind == 0 {
 		r.fail()
 	}
-	more := r.skip()
+	r.skip()
 	if a.Kind == api.AskLeaks || a.Kind == api.AskDead {
 		if r.at < len(r.text) {
 			r.fail()
@@ -94,7 +92,7 @@ func (r *reader) question() api.Ask {
 	}
 	a.Point = r.until(blanks + ":")
 	r.skip()
-	if !more || !isName(a.Point) || r.at == len(r.text) || r.text[r.at] != ':' {
+	if !isName(a.Point) || r.at == len(r.text) || r.text[r.at] != ':' {
 		r.fail()
 	}
 	r.at++

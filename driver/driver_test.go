@@ -85,6 +85,9 @@ func TestP26_1(t *testing.T) {
 			t.Error(line, col, e)
 		}
 	}
+	if l, _, _, e := Asks(strings.Repeat(" ", api.MaxText-4) + "dead"); len(l) != 1 || e != 0 {
+		t.Error(len(l), e)
+	}
 	if l, line, col, e := Asks(strings.Repeat("x", api.MaxText+1)); l != nil || line != 0 || col != 0 || e != api.ErrLong {
 		t.Error(line, col, e)
 	}
@@ -190,8 +193,10 @@ func TestP26_3(t *testing.T) {
 	if s != "1 taint p x 3\n2 const p x 1\n3 leaks 0 x 3\n" || f != (api.Failure{}) {
 		t.Errorf("%q, %v", s, f)
 	}
-	if s, f := Run(program, "", 0); s != "" || f != (api.Failure{}) {
-		t.Error(s, f)
+	for _, limit := range []int{0, api.MaxCap} {
+		if s, f := Run(program, "", limit); s != "" || f != (api.Failure{}) {
+			t.Error(s, f)
+		}
 	}
 	for i, c := range []struct {
 		program, questions string

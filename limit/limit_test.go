@@ -180,6 +180,10 @@ func TestP13_3(t *testing.T) {
 	if l, e := Runs(tens, conf(0, 0), conf(0, 0), 2); l != nil || e != api.ErrMany {
 		t.Error(len(l), e)
 	}
+	one := api.Pds{Space: p.Space, States: 1, Symbols: 1, Rules: []api.Rule{{W: []int{0}}}}
+	if l, e := Runs(one, conf(0, 0), conf(0, 0), 12); len(l) != 13 || e != 0 {
+		t.Error(len(l), e)
+	}
 	full := conf(0, make([]int, api.MaxWord)...)
 	if l, e := Runs(p, full, full, 1); l != nil || e != api.ErrLong {
 		t.Error(len(l), e)

@@ -495,3 +495,21 @@ func TestPrograms(t *testing.T) {
 		t.Error(shown)
 	}
 }
+
+func TestHeap(t *testing.T) {
+	d := samples.New(3)
+	var h heap
+	for range 50 {
+		for range 20 {
+			h.push(item{steps: d.Below(30)})
+		}
+		last := -1
+		for range d.Below(len(h)) + 1 {
+			x := h.pop()
+			if x.steps < last {
+				t.Fatal(x, last)
+			}
+			last = x.steps
+		}
+	}
+}
